@@ -1,0 +1,1 @@
+"""Reelwork: a processor's string instructions as data."""
