@@ -314,7 +314,7 @@ class Ends(unittest.TestCase):
         given = after(ROW, machine(si=3, di=0, flags=D), do(MOVS, 8, 0, 50))
         self.assertEqual(given[1], [0, 0, WORD - 5, WORD - 8, D, 0])
 
-    def test_registers_reach_2_to_the_64_only_from_memory(self):
+    def test_a_register_that_passed_0_comes_back_over_2_to_the_64(self):
         given = ask(memory(ROW), machine(si=0, flags=D), do(LODS, 8, 0, 1), TELL, program(ins(6, x=2, k=8)),
                     run(1), do(LODS, 8, 0, 1), TELL)
         self.assertEqual(given[3][3], WORD - 8)
