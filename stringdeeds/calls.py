@@ -2,14 +2,18 @@
 
 from stringdeeds.cells import SIZES
 from stringdeeds.machine import REG_SIZE
+from stringdeeds.packing import UNPACKED, pack_text, unpack_text
 from stringdeeds.programs import FIELDS, first_ill_formed, instructions_of, run_program
-from stringdeeds.rows import copy_row, fill_row, is_row
+from stringdeeds.rows import copy_row, count_in_row, fill_row, find_difference, find_in_row, is_row, swap_row, turn_row
 from stringdeeds.strings import DEEDS, do_string
 
 REFUSED = -1
 DONE = 0
 
 MOST_BYTES = 256
+MOST_PACKED = 256
+MOST_ROOM = 4096
+MOST_TO_PACK = 64
 BYTE_SIZE = 256
 HALF_SIZE = 4294967296
 MOST_INSTRUCTIONS = 64
@@ -20,8 +24,12 @@ def are_below(numbers, limit):
     return all([0 <= number < limit for number in numbers])
 
 
+def are_bytes(data, most):
+    return len(data) <= most and are_below(data, BYTE_SIZE)
+
+
 def call_memory(machine, numbers, data):
-    if len(data) > MOST_BYTES or not are_below(data, BYTE_SIZE):
+    if not are_bytes(data, MOST_BYTES):
         return [REFUSED]
     machine.cells = list(data)
     return [DONE]
@@ -76,15 +84,17 @@ def call_memory_bytes(machine, numbers, data):
     return [DONE] + machine.cells
 
 
+def are_two_rows(cells, one, other, n, width):
+    return is_row(cells, one, n, width) and is_row(cells, other, n, width)
+
+
 def call_copy(machine, numbers, data):
     dst = numbers[0]
     src = numbers[1]
     n = numbers[2]
     width = numbers[3]
     down = numbers[4]
-    if not is_row(machine.cells, dst, n, width) or not is_row(machine.cells, src, n, width):
-        return [REFUSED]
-    if not 0 <= down <= 1:
+    if not are_two_rows(machine.cells, dst, src, n, width) or not 0 <= down <= 1:
         return [REFUSED]
     copy_row(machine.cells, dst, src, n, width, down == 1)
     return [DONE]
@@ -101,6 +111,90 @@ def call_fill(machine, numbers, data):
     return [DONE]
 
 
+def call_echo(machine, numbers, data):
+    at = numbers[0]
+    period = numbers[1]
+    n = numbers[2]
+    if not is_row(machine.cells, at, n, 1) or not 1 <= period <= at:
+        return [REFUSED]
+    copy_row(machine.cells, at, at - period, n, 1, False)
+    return [DONE]
+
+
+def search(machine, numbers, down):
+    at = numbers[0]
+    n = numbers[1]
+    width = numbers[2]
+    value = numbers[3]
+    alike = numbers[4]
+    if not is_row(machine.cells, at, n, width) or not 0 <= value < REG_SIZE or not 0 <= alike <= 1:
+        return [REFUSED]
+    return [DONE, find_in_row(machine.cells, at, n, width, value, alike == 1, down)]
+
+
+def call_first(machine, numbers, data):
+    return search(machine, numbers, False)
+
+
+def call_last(machine, numbers, data):
+    return search(machine, numbers, True)
+
+
+def call_differ(machine, numbers, data):
+    x = numbers[0]
+    y = numbers[1]
+    n = numbers[2]
+    width = numbers[3]
+    down = numbers[4]
+    if not are_two_rows(machine.cells, x, y, n, width) or not 0 <= down <= 1:
+        return [REFUSED]
+    return [DONE, find_difference(machine.cells, x, y, n, width, down == 1)]
+
+
+def call_count(machine, numbers, data):
+    at = numbers[0]
+    n = numbers[1]
+    width = numbers[2]
+    value = numbers[3]
+    if not is_row(machine.cells, at, n, width) or not 0 <= value < REG_SIZE:
+        return [REFUSED]
+    return [DONE, count_in_row(machine.cells, at, n, width, value)]
+
+
+def change_row(machine, numbers, change):
+    at = numbers[0]
+    n = numbers[1]
+    width = numbers[2]
+    if not is_row(machine.cells, at, n, width):
+        return [REFUSED]
+    change(machine.cells, at, n, width)
+    return [DONE]
+
+
+def call_turn(machine, numbers, data):
+    return change_row(machine, numbers, turn_row)
+
+
+def call_swap(machine, numbers, data):
+    return change_row(machine, numbers, swap_row)
+
+
+def call_unpack(machine, numbers, data):
+    room = numbers[0]
+    if not 0 <= room <= MOST_ROOM or not are_bytes(data, MOST_PACKED):
+        return [REFUSED]
+    outcome = unpack_text(data, room)
+    if outcome[0] != UNPACKED:
+        return [outcome[0]]
+    return [DONE] + outcome[1]
+
+
+def call_pack(machine, numbers, data):
+    if not are_bytes(data, MOST_TO_PACK):
+        return [REFUSED]
+    return [DONE] + pack_text(data)
+
+
 # By a call's number: how many whole numbers it has, how many lists, and what does it.
 CALLS = {
     1: (0, 1, call_memory),
@@ -112,4 +206,13 @@ CALLS = {
     7: (0, 0, call_memory_bytes),
     8: (5, 0, call_copy),
     9: (4, 0, call_fill),
+    10: (3, 0, call_echo),
+    11: (5, 0, call_first),
+    12: (5, 0, call_last),
+    13: (5, 0, call_differ),
+    14: (4, 0, call_count),
+    15: (3, 0, call_turn),
+    16: (3, 0, call_swap),
+    17: (1, 1, call_unpack),
+    18: (0, 1, call_pack),
 }

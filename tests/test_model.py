@@ -3,7 +3,8 @@
 import random
 import unittest
 
-from tests.lists import BYTES, TELL, WORD, ask, copy, do, fill, machine, memory, program, run
+from tests.lists import (BYTES, TELL, WORD, ask, copy, count, differ, do, echo, fill, first, first_of_fewest, last,
+                         machine, memory, pack, program, run, swap, turn, unpack)
 
 NAMES = "a", "c", "si", "di"
 BITS = {"C": 0, "P": 2, "A": 4, "Z": 6, "S": 7, "D": 10, "O": 11}
@@ -194,6 +195,81 @@ class Model:
             self.write(dst + i * width, width, v)
         return [0]
 
+    def call_10(self, at, period, n):
+        if not self.row(at, n, 1) or not 1 <= period <= at:
+            return [-1]
+        for place in range(at, at + n):
+            self.bytes[place] = self.bytes[place - period]
+        return [0]
+
+    def parts(self, place, n, width):
+        return [bytes(self.bytes[place + i * width:place + i * width + width]) for i in range(n)]
+
+    def found(self, at, n, width, v, alike):
+        if not self.row(at, n, width) or not 0 <= v < WORD or alike not in (0, 1):
+            return None
+        lowest = v.to_bytes(8, "little")[:width]
+        return [i for i, part in enumerate(self.parts(at, n, width)) if (part == lowest) == bool(alike)]
+
+    def call_11(self, at, n, width, v, alike):
+        found = self.found(at, n, width, v, alike)
+        return [-1] if found is None else [0, (found + [n])[0]]
+
+    def call_12(self, at, n, width, v, alike):
+        found = self.found(at, n, width, v, alike)
+        return [-1] if found is None else [0, ([n] + found)[-1]]
+
+    def call_13(self, x, y, n, width, down):
+        if not self.row(x, n, width) or not self.row(y, n, width) or down not in (0, 1):
+            return [-1]
+        pairs = zip(self.parts(x, n, width), self.parts(y, n, width))
+        unlike = [i for i, (one, other) in enumerate(pairs) if one != other]
+        return [0, unlike[-down] if unlike else n]
+
+    def call_14(self, at, n, width, v):
+        found = self.found(at, n, width, v, 1)
+        return [-1] if found is None else [0, len(found)]
+
+    def call_15(self, at, n, width):
+        if not self.row(at, n, width):
+            return [-1]
+        self.bytes[at:at + n * width] = b"".join(reversed(self.parts(at, n, width)))
+        return [0]
+
+    def call_16(self, at, n, width):
+        if not self.row(at, n, width):
+            return [-1]
+        self.bytes[at:at + n * width] = b"".join(part[::-1] for part in self.parts(at, n, width))
+        return [0]
+
+    def call_17(self, room, length, *data):
+        if room not in range(4097) or length > 256 or any(number not in range(256) for number in data):
+            return [-1]
+        left, made = list(data), []
+        while left:
+            b = left.pop(0)
+            needs, makes = (b + 1, b + 1) if b < 128 else (1, b - 125) if b < 192 else (2, b - 189)
+            if len(left) < needs:
+                return [-2]
+            taken, left = left[:needs], left[needs:]
+            if b < 128:
+                made += taken
+            elif b < 192:
+                made += taken * makes
+            else:
+                p = taken[0] + 256 * taken[1]
+                if p == 0 or p > len(made):
+                    return [-3]
+                made += (made[-p:] * makes)[:makes]
+            if len(made) > room:
+                return [-4]
+        return [0, *made]
+
+    def call_18(self, length, *data):
+        if length > 64 or any(number not in range(256) for number in data):
+            return [-1]
+        return [0, *first_of_fewest(list(data))]
+
 
 class Maker:
     """Calls that mostly hold, from a fixed seed."""
@@ -250,9 +326,55 @@ class Maker:
     def call_fill(self):
         return fill(self.place(), self.mostly(0, 1, 2, 3), self.width(), self.value())
 
+    def call_echo(self):
+        return echo(self.place(), self.mostly(1, 1, 2, 3, 5, 8), self.mostly(0, 1, 2, 5, 9))
+
+    def call_first(self):
+        return first(*self.search(), self.mostly(0, 1))
+
+    def call_last(self):
+        return last(*self.search(), self.mostly(0, 1))
+
+    def call_count(self):
+        return count(*self.search())
+
+    def search(self):
+        v = self.mostly(0, 1, 7, 0x0101010101010101, 0x0707070707070707, self.value())
+        return self.place(), self.mostly(0, 1, 2, 3, 5), self.width(), v
+
+    def call_differ(self):
+        return differ(self.place(), self.place(), self.mostly(0, 1, 2, 3, 5), self.width(), self.mostly(0, 1))
+
+    def call_turn(self):
+        return turn(self.place(), self.mostly(0, 1, 2, 3, 5), self.width())
+
+    def call_swap(self):
+        return swap(self.place(), self.mostly(0, 1, 2, 3, 5), self.width())
+
+    def command(self):
+        n = self.random.randrange(6)
+        plain = [n] + [self.byte() for i in range(n + 1)]
+        repeat = [self.random.randrange(128, 192), self.byte()]
+        back = [self.random.randrange(192, 256), self.mostly(1, 2, 3, 4), self.random.choice((0, 0, 0, 0, 1))]
+        return self.random.choice((plain, repeat, back))
+
+    def byte(self):
+        return self.random.choice((0, 1, 2, self.random.randrange(256)))
+
+    def call_unpack(self):
+        text = [number for i in range(self.random.randrange(6)) for number in self.command()]
+        cut = self.random.choice((0, 0, 0, 1))
+        return unpack(self.mostly(4096, 4096, 100, 30), text[:len(text) - cut])
+
+    def call_pack(self):
+        text = [self.mostly(0, 1, 1, 2) for i in range(self.random.choice((0, 1, 5, 9, 14)))]
+        return pack(text)
+
     def calls(self, how_many):
         makers = [self.call_memory, self.call_machine, self.call_machine, self.call_program, self.call_do,
-                  self.call_do, self.call_run, self.call_run, self.call_copy, self.call_fill]
+                  self.call_do, self.call_run, self.call_run, self.call_copy, self.call_fill, self.call_echo,
+                  self.call_first, self.call_last, self.call_differ, self.call_count, self.call_turn, self.call_swap,
+                  self.call_unpack, self.call_pack]
         return [self.call_memory()] + [self.random.choice(makers)() for i in range(how_many - 1)]
 
 

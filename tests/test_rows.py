@@ -2,18 +2,8 @@
 
 import unittest
 
-from tests.lists import BYTES, TELL, WIDTHS, WORD, ask, copy, fill, ins, machine, memory, program, run
-
-ROW = list(range(100, 124))
-HUGE = (WORD - 1, WORD, 2 * WORD - 1)
-
-
-def after(data, call):
-    """What the call answers, and the bytes; nothing else may be otherwise."""
-    begin = [1, 2, 3, 4, 1024 + 64, 0]
-    given = ask(program(ins(13)), memory(data), machine(*begin), call, BYTES, TELL, run(9))
-    assert given[5:] == [[0] + begin, [0, 0, 0]], given
-    return given[3], given[4][1:]
+from tests.lists import (ROW, WIDTHS, WORD, WRONG_CHOICES, WRONG_NUMBERS, WRONG_VALUES, WRONG_WIDTHS, after, copy,
+                         fill)
 
 
 class Copy(unittest.TestCase):
@@ -75,18 +65,18 @@ class Copy(unittest.TestCase):
         self.assertEqual(after([], copy(0, 0, 1, 1, 0)), ([-1], []))
 
     def test_wrong_numbers(self):
-        for wrong in (-1, -2, -8, 25, -WORD, -2 * WORD) + HUGE:
+        for wrong in WRONG_NUMBERS:
             for call in (copy(wrong, 0, 1, 1, 0), copy(0, wrong, 1, 1, 0), copy(wrong, 0, 0, 1, 0),
                          copy(0, wrong, 0, 8, 0), copy(0, 0, wrong, 1, 0), copy(0, 0, wrong, 8, 1)):
                 self.assertEqual(after(ROW, call), ([-1], ROW), call)
 
     def test_wrong_widths(self):
-        for wrong in (-8, -4, -2, -1, 0, 3, 5, 6, 7, 9, 16) + HUGE:
+        for wrong in WRONG_WIDTHS:
             for n in (0, 1):
                 self.assertEqual(after(ROW, copy(0, 0, n, wrong, 0)), ([-1], ROW))
 
     def test_wrong_down(self):
-        for wrong in (-1, 2, 3, -2 * WORD) + HUGE:
+        for wrong in WRONG_CHOICES:
             for n in (0, 1):
                 self.assertEqual(after(ROW, copy(0, 1, n, 1, wrong)), ([-1], ROW))
 
@@ -107,7 +97,7 @@ class Fill(unittest.TestCase):
             self.assertEqual(after(ROW, fill(4, 2, width, 0)), ([0], ROW[:4] + [0] * 2 * width + ROW[4 + 2 * width:]))
             given = after(ROW, fill(4, 2, width, WORD - 1))
             self.assertEqual(given, ([0], ROW[:4] + [255] * 2 * width + ROW[4 + 2 * width:]))
-            for wrong in (-1, WORD, WORD + 1, -2 * WORD, 2 * WORD - 1):
+            for wrong in WRONG_VALUES:
                 self.assertEqual(after(ROW, fill(4, 2, width, wrong)), ([-1], ROW))
                 self.assertEqual(after(ROW, fill(4, 0, width, wrong)), ([-1], ROW))
 
@@ -123,7 +113,7 @@ class Fill(unittest.TestCase):
         self.assertEqual(after([], fill(0, 1, 1, 1)), ([-1], []))
 
     def test_wrong_numbers(self):
-        for wrong in (-1, -2, -8, 25, -WORD, -2 * WORD) + HUGE:
+        for wrong in WRONG_NUMBERS:
             for call in (fill(wrong, 1, 1, 0), fill(wrong, 0, 8, 0), fill(0, wrong, 1, 0), fill(0, wrong, 8, 0)):
                 self.assertEqual(after(ROW, call), ([-1], ROW), call)
 
@@ -133,7 +123,7 @@ class Fill(unittest.TestCase):
         self.assertEqual(after(ROW, fill(26, -1, 2, 0)), ([-1], ROW))
 
     def test_wrong_widths(self):
-        for wrong in (-8, -4, -2, -1, 0, 3, 5, 6, 7, 9, 16) + HUGE:
+        for wrong in WRONG_WIDTHS:
             for n in (0, 1):
                 self.assertEqual(after(ROW, fill(0, n, wrong, 0)), ([-1], ROW))
 
